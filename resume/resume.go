@@ -5,11 +5,14 @@ import (
 	"resume/api"
 	"resume/grammar"
 	"resume/scope"
+	"resume/typing"
 	"resume/words"
 )
 
 // Program is a program that was read and typed.
-type Program struct{}
+type Program struct {
+	typ string
+}
 
 // Run is a run of a program.
 type Run struct{}
@@ -27,15 +30,24 @@ func Compile(s string) (*Program, api.Errno) {
 	if !isExp {
 		return nil, api.ErrSyntax
 	}
-	_, inSight := scope.Find(whole)
+	means, inSight := scope.Find(whole)
 	if !inSight {
 		return nil, api.ErrScope
 	}
-	return &Program{}, api.OK
+	typ, hasType := typing.Find(whole, means)
+	if !hasType {
+		return nil, api.ErrType
+	}
+	return &Program{typ: typ}, api.OK
 }
 
 // Type tells the program's type (P5).
-func (p *Program) Type() string { return "" }
+func (p *Program) Type() string {
+	if p == nil {
+		return ""
+	}
+	return p.typ
+}
 
 // Start begins a run (P6).
 func (p *Program) Start(input []int, words int) (*Run, api.Errno) { return nil, api.OK }

@@ -53,6 +53,7 @@ func TestErrors(t *testing.T) {
 		{"let rec r n = if n < 1 then 0 else print (r (n-1) + read) in r 3", api.OK},
 		{"999999", api.OK}, {"1000000", api.ErrLex}, {"0999999", api.OK}, {"01000000", api.ErrLex}, {"1 + # 2", api.ErrLex}, {"[ ]", api.ErrLex}, {"1\t", api.ErrLex},
 		{"", api.ErrSyntax}, {" \n ", api.ErrSyntax}, {"callcc", api.ErrSyntax}, {"(1, 2, 3)", api.ErrSyntax}, {"if true then 1", api.ErrSyntax}, {"1 = 2 = true", api.ErrSyntax}, {"_", api.ErrSyntax},
+		{"1 true", api.ErrType}, {"fn x -> x x", api.ErrType}, {"true = true", api.ErrType}, {"(fn id -> (id 1, id true)) (fn x -> x)", api.ErrType}, {"let f = (fn x -> x) (fn y -> y) in (f 1, f true)", api.ErrType}, {"let x = 1 true in 2", api.ErrType},
 		{"x", api.ErrScope}, {"let x = x in x", api.ErrScope}, {"match (1, 2) with (x, x) -> x end", api.ErrScope}, {"let rec f x = 1 and f y = 2 in f 1", api.ErrScope}, {"letx", api.ErrScope},
 	} {
 		check(t, c.s, c.e)
@@ -67,10 +68,34 @@ func TestFirstError(t *testing.T) {
 	}{
 		{"x + #", api.ErrLex}, {"+ + #", api.ErrLex}, {") 1000000", api.ErrLex}, {"fn x -> y 1 \x00", api.ErrLex}, {"fn fn [", api.ErrLex},
 		{"x +", api.ErrSyntax}, {"x y z )", api.ErrSyntax}, {"let x = x in", api.ErrSyntax}, {"match 1 with (x, x) -> y", api.ErrSyntax}, {"let rec f x = 1 and f y = 2", api.ErrSyntax},
-		{"x 1 true", api.ErrScope}, {"true + x", api.ErrScope}, {"(1 1, x)", api.ErrScope},
+		{"x 1 true", api.ErrScope}, {"true + x", api.ErrScope}, {"(1 1, x)", api.ErrScope}, {"(fn x -> x x) y", api.ErrScope}, {"match 1 with (x, x) -> true 1 end", api.ErrScope}, {"let rec f x = f and f y = f in 1 1", api.ErrScope},
+		{"1 1 #", api.ErrLex}, {"(1 1", api.ErrSyntax}, {strings.Repeat("1", 6) + strings.Repeat(" 1", 118), api.ErrLong}, {"1" + strings.Repeat(" 1", 119), api.ErrType},
 		{strings.Repeat("x", 240) + "#", api.ErrLong}, {strings.Repeat("(", 241), api.ErrLong},
 	} {
 		check(t, c.s, c.e)
+	}
+}
+
+func TestType(t *testing.T) {
+	for _, c := range []struct{ s, want string }{
+		{"1 + 2 * 3", "int"}, {"1 < 2", "bool"}, {"2 :: 3 :: []", "int list"}, {"(1, (true, []))", "(int * (bool * 'a list))"}, {"fn f -> fn g -> fn x -> f (g x)", "(('a -> 'b) -> (('c -> 'a) -> ('c -> 'b)))"},
+		{"let id = fn x -> x in (id 1, id true)", "(int * bool)"}, {"let rec f x = f (f x) in f", "('a -> 'a)"}, {"fn k -> fn x -> throw k x", "('a cont -> ('a -> 'b))"}, {"try raise 1 with e -> raise (e + 1) end", "'a"},
+		{"let rec r n = if n < 1 then 0 else print (r (n-1) + read) in r 3", "int"}, {"let a=fn x->(x,x)in let b=fn x->a(a(a x))in b(b(b 1))::[]", ".."},
+	} {
+		p, e := resume.Compile(c.s)
+		if e != api.OK || p == nil {
+			t.Errorf("Compile(%q) = %v, %d", c.s, p, e)
+		} else if p.Type() != c.want || p.Type() != c.want {
+			t.Errorf("the type of %q is %q, want %q", c.s, p.Type(), c.want)
+		}
+	}
+}
+
+// The type of what is no program can be asked for, too.
+func TestTypeOfNothing(t *testing.T) {
+	p, _ := resume.Compile("1 1")
+	if p.Type() != "" || (&resume.Program{}).Type() != "" {
+		t.Error("what is no program has a type")
 	}
 }
 
