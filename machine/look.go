@@ -21,11 +21,14 @@ func (m *Machine) look() {
 	case tree.Name:
 		m.name(sight, m.code.Means[at])
 	case tree.Fn:
-		m.goOn(values.Value{Kind: values.Function, Param: e.Binder, Body: e.First, Sight: sight})
+		kept := m.kept(sight, m.code.Kept[at])
+		m.goOn(values.Value{Kind: values.Function, Param: e.Binder, Body: e.First, Sight: kept})
 	case tree.Read:
 		m.read()
 	case tree.LetRec:
-		m.lookAt(e.First, &values.Sight{Binder: values.Functions, LetRec: at, Next: sight})
+		kept := m.kept(sight, m.code.Kept[at])
+		alone := &values.Sight{Binder: values.Functions, LetRec: at, Next: kept}
+		m.lookAt(e.First, &values.Sight{Binder: values.Functions, LetRec: at, Own: alone, Next: sight})
 	default:
 		m.waits = &values.Wait{Exp: at, Sight: sight, Next: m.waits}
 		m.lookAt(e.First, sight)
@@ -66,8 +69,43 @@ func (m *Machine) function(s *values.Sight, binder int) (values.Value, bool) {
 	funs := m.code.Tree.Exps[s.LetRec].Funs
 	for i := 0; i < len(funs); i++ {
 		if funs[i].Binder == binder {
-			return values.Value{Kind: values.Function, Param: funs[i].Param, Body: funs[i].Body, Sight: s}, true
+			return values.Value{Kind: values.Function, Param: funs[i].Param, Body: funs[i].Body, Sight: own(s)}, true
 		}
 	}
 	return values.Value{}, false
+}
+
+// own answers the functions of a let rec with what they remember alone.
+func own(functions *values.Sight) *values.Sight {
+	if functions.Own != nil {
+		return functions.Own
+	}
+	return functions
+}
+
+// kept answers what a function remembers of what is in sight: the names that
+// it uses. With all that is in sight it could keep alive every function before
+// it, in a run that holds but one at any time.
+func (m *Machine) kept(sight *values.Sight, used []bool) *values.Sight {
+	var kept *values.Sight
+	for s := sight; s != nil; s = s.Next {
+		if s.Binder == values.Functions {
+			if m.anyUsed(s.LetRec, used) {
+				kept = &values.Sight{Binder: values.Functions, LetRec: s.LetRec, Own: own(s), Next: kept}
+			}
+		} else if used[s.Binder] {
+			kept = &values.Sight{Binder: s.Binder, Value: s.Value, Next: kept}
+		}
+	}
+	return kept
+}
+
+func (m *Machine) anyUsed(letRec int, used []bool) bool {
+	funs := m.code.Tree.Exps[letRec].Funs
+	for i := 0; i < len(funs); i++ {
+		if used[funs[i].Binder] {
+			return true
+		}
+	}
+	return false
 }

@@ -12,7 +12,8 @@ import (
 // Code is a program that has a type. Its runs share it, and nothing changes it.
 type Code struct {
 	Tree  tree.Tree
-	Means []int // for each expression that is a name, its binder
+	Means []int    // for each expression that is a name, its binder
+	Kept  [][]bool // for each fn and let rec, which binders' names its functions use
 }
 
 // Machine is a run as it stands.

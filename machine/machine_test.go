@@ -25,7 +25,7 @@ func read(text string) (*Code, bool) {
 		return nil, false
 	}
 	_, hasType := typing.Find(whole, means)
-	return &Code{Tree: whole, Means: means}, hasType
+	return &Code{Tree: whole, Means: means, Kept: scope.Kept(whole, means)}, hasType
 }
 
 func begin(t *testing.T, text string, input []int) *Machine {
@@ -162,16 +162,6 @@ func TestTexts(t *testing.T) {
 	})
 }
 
-// The examples with exceptions and continuations.
-func TestControl(t *testing.T) {
-	check(t, []example{
-		done("fn k -> callcc k", "fn"), done("fn k -> fn x -> throw k x", "fn"), done("fn x -> raise x", "fn"), done("callcc (fn k -> 1 + throw k 10)", "10"), done("let f = callcc (fn k -> fn n -> throw k (fn m -> m + n)) in f 5", "10"),
-		done("try 1 + raise 41 with e -> e + 1 end", "42"), uncaught("try raise 1 with e -> raise (e + 1) end", "2"), done("try try raise 1 with e -> raise (e + 1) end with e -> e * 10 end", "20"), done("try callcc (fn k -> try throw k 1 with e -> 2 end) + raise 9 with e -> e end", "9"),
-		done("callcc (fn k -> raise (callcc (fn j -> throw k j)))", "cont"), uncaught("let j = callcc (fn k -> raise (callcc (fn j -> throw k j))) in try throw j 5 with e -> e end", "5"), uncaught("(raise 1) (raise 2)", "1"), uncaught("(raise 1, raise 2)", "1"), uncaught("(raise 1) :: raise 2", "1"), uncaught("(raise 1) + (raise 2)", "1"),
-		done("try 1 / 0 with e -> e end", "-1"), done("try match 1 with 2 -> 3 end with e -> e end", "-2"), done("try 5 with e -> 6 end", "5"), done("let f = fn y -> raise y in let x = 3 in try f 1 with e -> (e, x) end", "(1,3)"), {"try read with e -> e end", nil, api.Exhausted, "", nil},
-	})
-}
-
 // Runs of one program do not meddle with each other, nor with the caller's list.
 func TestRunsApart(t *testing.T) {
 	code, _ := read("let rec r n = if n < 1 then [] else print (read + n) :: r (n - 1) in r 8")
@@ -211,6 +201,7 @@ func heap() int {
 func TestKeepsLittle(t *testing.T) {
 	for _, text := range []string{
 		"let rec f n = f (n + 1) in f 0", "let rec f n = if n < 0 then f n else f (n + 1) in f 0", "let rec f n = let m = n + 1 in f m in f 0", "let rec f n = match n :: n :: [] with [] -> 0 | x :: _ -> f (x + 1) end in f 0", "let rec e n = o (n + 1) and o n = e (n + 1) in e 0", "let rec f n = let rec g m = f (m + 1) in g n in f 0", "let rec f p = match p with (g, x) -> f (g, g x) end in f (fn x -> x + 1, 1)",
+		"let rec f g = f (fn x -> x) in f (fn x -> x)", "let rec f g = let h = g 1 in f (fn x -> x + h) in f (fn x -> x)", "let rec f g = let rec h x = x in f h in f (fn x -> x)", "let rec f g = let rec h x = i x and i x = h x in f i in f (fn x -> x)", "let rec f g = let rec h x = fn y -> h y x in f (h 1) in f (fn x -> x)", "let rec f g = let n = g 1 in let rec h x = n in f (fn x -> h x) in f (fn x -> x)", "let rec f g = let rec h x = f (fn y -> y) in h g in f (fn x -> x)", "let rec f g = let rec h x = g x in f (fn x -> x) in f (fn x -> x)",
 		"let rec f n = f (try raise n with e -> e end) in f 0", "let rec f n = try raise n with e -> f e end in f 0", "let rec f n = callcc (fn k -> f (n + 1)) in f 0", "let rec f n = f (callcc (fn k -> 1 + throw k n)) in f 0", "let rec m k = fn n -> throw k (m k) in let f = callcc (fn k -> m k) in f 1",
 	} {
 		m := begin(t, text, nil)

@@ -42,7 +42,8 @@ func Compile(s string) (*Program, api.Errno) {
 	if !hasType {
 		return nil, api.ErrType
 	}
-	code := machine.Code{Tree: whole, Means: means}
+	kept := scope.Kept(whole, means)
+	code := machine.Code{Tree: whole, Means: means, Kept: kept}
 	return &Program{typ: typ, code: &code}, api.OK
 }
 

@@ -99,6 +99,7 @@ func TestEnded(t *testing.T) {
 		want api.State
 	}{
 		{"print 1 + 2", api.State{Status: api.Done, Value: "3", Prints: []int{1}}}, {"print 1 / 0", api.State{Status: api.Uncaught, Value: "-1", Prints: []int{1}}}, {"print 1 + read", api.State{Status: api.Exhausted, Prints: []int{1}}}, {"[]", api.State{Status: api.Done, Value: "[]"}}, {"match 1 with 2 -> 3 end", api.State{Status: api.Uncaught, Value: "-2"}}, {"read", api.State{Status: api.Exhausted}},
+		{"raise (print 7)", api.State{Status: api.Uncaught, Value: "7", Prints: []int{7}}}, {"try raise 1 with e -> raise (print e + 1) end", api.State{Status: api.Uncaught, Value: "2", Prints: []int{1}}}, {"try read with e -> print e end", api.State{Status: api.Exhausted}}, {"callcc (fn k -> 1 + throw k (print 2))", api.State{Status: api.Done, Value: "2", Prints: []int{2}}},
 	} {
 		r := start(t, c.s, nil, 16)
 		r.Go(4000)
@@ -130,6 +131,8 @@ type ending struct {
 var endings = []ending{
 	{"1 + 2 * 3", nil, api.Done, "7", nil}, {"7 - 2 - 1", nil, api.Done, "4", nil}, {"0 - 7 / 2", nil, api.Done, "-3", nil}, {"(0 - 7) / 2", nil, api.Done, "-3", nil}, {"2 :: 3 :: []", nil, api.Done, "[2,3]", nil}, {"(1, (true, []))", nil, api.Done, "(1,(true,[]))", nil}, {"fn x -> fn y -> x", nil, api.Done, "fn", nil}, {"fn f -> fn g -> fn x -> f (g x)", nil, api.Done, "fn", nil}, {"let id = fn x -> x in (id 1, id true)", nil, api.Done, "(1,true)", nil}, {"let rec f x = f (f x) in f", nil, api.Done, "fn", nil},
 	{"1 / 0", nil, api.Uncaught, "-1", nil}, {"match 3 with 1 -> 2 end", nil, api.Uncaught, "-2", nil}, {"read", nil, api.Exhausted, "", nil}, {"999999 * 999999", nil, api.Done, "-729379967", nil}, {"let rec s n = if n < 1 then 0 else n + s (n - 1) in s 1000", nil, api.Done, "500500", nil}, {"let rec e n = if n = 0 then true else o (n - 1) and o n = if n = 0 then false else e (n - 1) in e 101", nil, api.Done, "false", nil}, {"match (1 :: 2 :: [], 3) with ([], y) -> y | (x :: [], y) -> x | (x :: y :: _, 3) -> x * 100 + y | _ -> 0 end", nil, api.Done, "102", nil}, {"let x = 1 in let f = fn y -> x + y in let x = 10 in f 5", nil, api.Done, "6", nil}, {"46000 * 46000", nil, api.Done, "2116000000", nil},
+	{"fn k -> callcc k", nil, api.Done, "fn", nil}, {"fn k -> fn x -> throw k x", nil, api.Done, "fn", nil}, {"fn x -> raise x", nil, api.Done, "fn", nil}, {"callcc (fn k -> 1 + throw k 10)", nil, api.Done, "10", nil}, {"let f = callcc (fn k -> fn n -> throw k (fn m -> m + n)) in f 5", nil, api.Done, "10", nil}, {"try 1 + raise 41 with e -> e + 1 end", nil, api.Done, "42", nil}, {"try raise 1 with e -> raise (e + 1) end", nil, api.Uncaught, "2", nil}, {"try try raise 1 with e -> raise (e + 1) end with e -> e * 10 end", nil, api.Done, "20", nil},
+	{"try callcc (fn k -> try throw k 1 with e -> 2 end) + raise 9 with e -> e end", nil, api.Done, "9", nil}, {"callcc (fn k -> raise (callcc (fn j -> throw k j)))", nil, api.Done, "cont", nil}, {"let j = callcc (fn k -> raise (callcc (fn j -> throw k j))) in try throw j 5 with e -> e end", nil, api.Uncaught, "5", nil}, {"(raise 1) (raise 2)", nil, api.Uncaught, "1", nil}, {"(raise 1, raise 2)", nil, api.Uncaught, "1", nil}, {"(raise 1) :: raise 2", nil, api.Uncaught, "1", nil}, {"(raise 1) + (raise 2)", nil, api.Uncaught, "1", nil},
 	{"let rec r n = if n < 1 then 0 else print (r (n-1) + read) in r 3", []int{5, 6, 7}, api.Done, "18", []int{5, 11, 18}}, {"let rec r n = if n < 1 then 0 else print (r (n-1) + read) in r 3", []int{5, 6}, api.Exhausted, "", []int{5, 11}},
 }
 
@@ -150,6 +153,7 @@ func TestExamples(t *testing.T) {
 func TestSlicesAndWords(t *testing.T) {
 	for _, s := range []string{
 		"let rec f n = f (print n + 1) in f 0", "let rec f n = 1 + f (print n + 1) in f 0", "let rec b n = print n :: b (n + 1) in b 0", "let rec s n = if n < 1 then 0 else n + s (n - 1) in s 100", "let rec f g = f (fn x -> print (g x + 1)) in f (fn x -> x)", "let rec fib n = if n < 2 then print n else fib (n-1) + fib (n-2) in fib 7", "let rec d n = if n = 0 then 1 / 0 else print n + d (n - 1) in d 30", "let rec f x = f (f x) in f 1", "print read :: print read :: print read :: []",
+		"let rec f n = f (try raise (print n) with e -> e + 1 end) in f 0", "let rec f n = try f (print n + 1) with e -> e end in f 0", "let rec d n = if n = 0 then raise 7 else print n + d (n - 1) in try d 30 with e -> print e end", "let rec f n = callcc (fn k -> 1 + f (print n + 1)) in f 0", "let rec m k = fn n -> if n = 0 then raise 77 else throw k (fn x -> m k (print (n - 1))) in try (callcc (fn k -> m k)) 60 with e -> e end", "let f = callcc (fn k -> let rec m u = throw k m in m) in let x = print read in if x = 0 then 99 else f 0", "let j = callcc (fn k -> let rec d n = if n = 0 then callcc (fn j -> throw k j) else 1 + d (print n-1) in raise (d 50)) in try throw j (print 5) with e -> e end",
 	} {
 		var runs, sliced []*resume.Run
 		for _, words := range []int{16, 17, 100, 5000, 20000, 262144} {
@@ -183,6 +187,7 @@ func TestSlicesAndWords(t *testing.T) {
 func TestMuchMemory(t *testing.T) {
 	for _, c := range []ending{
 		{"let rec s n = if n < 1 then 0 else n + s (n - 1) in s 3000", nil, api.Done, "4501500", nil}, {"let rec s n = if n < 1 then 0 else 1 + s (n - 1) in s 100000", nil, api.Done, "100000", nil}, {"let rec b n = if n < 1 then [] else n :: b (n-1) in b 100000", nil, api.Done, "..", nil}, {"let rec b n = if n < 1 then 1 / 0 else n + b (n-1) in b 100000", nil, api.Uncaught, "-1", nil}, {"let rec f n = if n < 1 then fn x -> x else let g = f (n - 1) in fn x -> g (x + 1) in f 20000 5", nil, api.Done, "20005", nil},
+		{"let rec f n = if n < 1 then raise 42 else 1 + f (n-1) in try f 100000 with e -> e end", nil, api.Done, "42", nil}, {"let rec f n = if n < 1 then raise 0 else try f (n - 1) with e -> raise (e + 1) end in f 50000", nil, api.Uncaught, "50000", nil}, {"let rec f n = callcc (fn k -> if n < 1 then throw k 0 else 1 + f (n-1)) in f 50000", nil, api.Done, "50000", nil}, {"let rec m k = fn n -> if n = 0 then 77 else throw k (fn x -> m k (n - 1)) in let f = callcc (fn k -> m k) in f 50000", nil, api.Done, "77", nil}, {"let j = callcc (fn k -> let rec d n = if n = 0 then callcc (fn j -> throw k j) else 1 + d (n-1) in raise (d 50000)) in throw j 5", nil, api.Uncaught, "50005", nil},
 	} {
 		s := goOn(t, start(t, c.s, c.input, api.MinWords), 3000000, 4000)
 		if s.Status != c.status || s.Value != c.value {

@@ -1,6 +1,7 @@
 // Package tree has the parts of a program that was read: expressions,
 // functions, patterns. They lie in lists and name each other by their places
-// there; a part stands behind the parts that it is made of.
+// there; a part stands just behind the parts that it is made of, which lie
+// together in the order of the text.
 package tree
 
 // Kind tells which expression or pattern a part is.

@@ -41,8 +41,9 @@ const Functions = -1
 // made where they are used: were they kept here, they would hold themselves.
 type Sight struct {
 	Binder int
-	Value  Value // of a name alone
-	LetRec int   // of Functions alone: their expression
+	Value  Value  // of a name alone
+	LetRec int    // of Functions alone: their expression
+	Own    *Sight // of Functions alone: they, and what they remember; nil, if Next is just that
 	Next   *Sight
 }
 
